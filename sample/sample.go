@@ -42,6 +42,19 @@ func Example() api.Plan {
 	}
 }
 
+// Lines returns a plan of rails that do not meet: one for each line of at least two spots.
+func Lines(lines ...[]api.Spot) api.Plan {
+	var p api.Plan
+	for i, line := range lines {
+		last := len(line) - 1
+		p.Nodes = append(p.Nodes,
+			api.Node{Spot: line[0], Kind: api.NodeEnd, Ends: []api.RailEnd{{Rail: i}}},
+			api.Node{Spot: line[last], Kind: api.NodeEnd, Ends: []api.RailEnd{{Rail: i, Last: true}}})
+		p.Rails = append(p.Rails, api.Rail{From: 2 * i, To: 2*i + 1, Shape: append([]api.Spot(nil), line[1:last]...), Limit: 8000})
+	}
+	return p
+}
+
 // Plan returns a valid plan of about so many nodes, whose spots lie from 0 to size in both directions; size is at least 4.
 func Plan(r *Rand, nodes, size int) api.Plan {
 	var p api.Plan

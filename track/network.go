@@ -4,14 +4,14 @@ import (
 	"slices"
 
 	"tramline/api"
+	"tramline/shape"
 )
 
 const (
-	spotRange    = 10000000
-	mostShape    = 30
-	mostLimit    = 50000
-	mostSlope    = 120
-	mostDistance = 1000000
+	spotRange = 10000000
+	mostShape = 30
+	mostLimit = 50000
+	mostSlope = 120
 )
 
 // network is a valid plan with what follows from it. A move is named by its number here, which is also that of the end it leaves from: 2 Rail, plus 1 with Back (plus 1 with Last). It arrives at the other end of its rail, number ^ 1.
@@ -68,7 +68,7 @@ func (n *network) railsRight() bool {
 		if !n.railRight(rail) {
 			return false
 		}
-		length, ok := measure(n.line(i))
+		length, ok := measure(shape.Line(n.Plan, i))
 		if !ok {
 			return false
 		}
@@ -95,38 +95,17 @@ func (n *network) railRight(rail api.Rail) bool {
 	return true
 }
 
-// line returns the line of a rail, in memory of its own.
-func (n *network) line(rail int) []api.Spot {
-	r := n.Rails[rail]
-	line := make([]api.Spot, 0, len(r.Shape)+2)
-	line = append(line, n.Nodes[r.From].Spot)
-	line = append(line, r.Shape...)
-	return append(line, n.Nodes[r.To].Spot)
-}
-
 // measure returns the length of a line, and whether the distances of its neighbors are in their range.
 func measure(line []api.Spot) (int, bool) {
 	sum := 0
 	for i := 1; i < len(line); i++ {
-		dx, dy := line[i].X-line[i-1].X, line[i].Y-line[i-1].Y
-		square := dx*dx + dy*dy
-		if square == 0 || square >= (mostDistance+1)*(mostDistance+1) {
+		d, ok := shape.Distance(line[i-1], line[i])
+		if !ok {
 			return 0, false
 		}
-		sum += root(square)
+		sum += d
 	}
 	return sum, true
-}
-
-// root returns the integer part of the square root, bit by bit, for squares below 2^40.
-func root(square int) int {
-	r := 0
-	for bit := 1 << 19; bit > 0; bit >>= 1 {
-		if x := r + bit; x*x <= square {
-			r = x
-		}
-	}
-	return r
 }
 
 // endsRight checks that each end of a rail is at its node, once.

@@ -1,7 +1,10 @@
 // Package track is layer 1: plans of tracks, what follows what on them, ways, and what a car covers. See shared/doc/01-track.md.
 package track
 
-import "tramline/api"
+import (
+	"tramline/api"
+	"tramline/shape"
+)
 
 // Check returns the error of a plan.
 func Check(p api.Plan) api.Errno {
@@ -26,7 +29,7 @@ func Line(p api.Plan, rail int) ([]api.Spot, api.Errno) {
 	if !ok || !n.hasRail(rail) {
 		return nil, api.ErrArg
 	}
-	return n.line(rail), api.OK
+	return shape.Line(n.Plan, rail), api.OK
 }
 
 // Next returns all moves that follow a move.

@@ -1,6 +1,9 @@
 package track
 
-import "tramline/api"
+import (
+	"tramline/api"
+	"tramline/shape"
+)
 
 // surveyWay returns the network of a plan with the numbers of the moves of a way, and whether both are right.
 func surveyWay(p api.Plan, moves []api.Move) (*network, []int, bool) {
@@ -72,7 +75,7 @@ func (n *network) consistent(to int, distances []int) bool {
 	}
 	for m, d := range distances {
 		// No way without repeated moves is longer; so sums do not overflow.
-		if d < -1 || d > 2*len(n.Rails)*(mostShape+1)*mostDistance {
+		if d < -1 || d > 2*len(n.Rails)*(mostShape+1)*shape.MostDistance {
 			return false
 		}
 		if m != to && d != n.leastBeyond(m, distances) {
