@@ -25,6 +25,19 @@ func Distance(a, b api.Spot) (int, bool) {
 	return root(square), true
 }
 
+// Length returns the length of a line, and whether the distances of its neighbors are in their range.
+func Length(line []api.Spot) (int, bool) {
+	sum := 0
+	for i := 1; i < len(line); i++ {
+		d, ok := Distance(line[i-1], line[i])
+		if !ok {
+			return 0, false
+		}
+		sum += d
+	}
+	return sum, true
+}
+
 // root returns the integer part of the square root, bit by bit, for squares below 2^40.
 func root(square int) int {
 	r := 0

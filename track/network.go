@@ -68,7 +68,7 @@ func (n *network) railsRight() bool {
 		if !n.railRight(rail) {
 			return false
 		}
-		length, ok := measure(shape.Line(n.Plan, i))
+		length, ok := shape.Length(shape.Line(n.Plan, i))
 		if !ok {
 			return false
 		}
@@ -93,19 +93,6 @@ func (n *network) railRight(rail api.Rail) bool {
 		}
 	}
 	return true
-}
-
-// measure returns the length of a line, and whether the distances of its neighbors are in their range.
-func measure(line []api.Spot) (int, bool) {
-	sum := 0
-	for i := 1; i < len(line); i++ {
-		d, ok := shape.Distance(line[i-1], line[i])
-		if !ok {
-			return 0, false
-		}
-		sum += d
-	}
-	return sum, true
 }
 
 // endsRight checks that each end of a rail is at its node, once.
