@@ -17,7 +17,7 @@ type zone struct {
 
 // run is a train on its way.
 type run struct {
-	engine
+	*engine
 	unit  int // by how much the Way grows in a millimeter
 	zones []zone
 }

@@ -6,10 +6,13 @@ import "tramline/api"
 type engine struct {
 	api.Train
 	adhesion int
+	kinds    [forceKinds]func(instant) int
 }
 
-func newEngine(t api.Train, state int) engine {
-	return engine{Train: t, adhesion: t.Grip[state] * t.Mass * 981 / 100000}
+func newEngine(t api.Train, state int) *engine {
+	e := &engine{Train: t, adhesion: t.Grip[state] * t.Mass * 981 / 100000}
+	e.kinds = [forceKinds]func(instant) int{pull: e.pull, brake: e.brake, drag: e.drag, hill: e.hill}
+	return e
 }
 
 // instant is what the forces depend on.
@@ -55,9 +58,8 @@ const (
 type forces [forceKinds]int
 
 func (e *engine) forces(i instant) forces {
-	kinds := [forceKinds]func(instant) int{pull: e.pull, brake: e.brake, drag: e.drag, hill: e.hill}
 	var f forces
-	for k, force := range kinds {
+	for k, force := range e.kinds {
 		f[k] = force(i)
 	}
 	return f
