@@ -88,6 +88,8 @@ func TestCheck(t *testing.T) {
 		"huge":                 {func(g *api.Grid) { g.Nodes = math.MaxInt }, api.ErrArg},
 		"wire to nowhere":      {func(g *api.Grid) { g.Wires[0].B = 3 }, api.ErrArg},
 		"wire from nowhere":    {func(g *api.Grid) { g.Wires[0].A = -1 }, api.ErrArg},
+		"wire from node 3":     {func(g *api.Grid) { g.Wires[0].A = 3 }, api.ErrArg},
+		"wire to node -1":      {func(g *api.Grid) { g.Wires[0].B = -1 }, api.ErrArg},
 		"wire to itself":       {func(g *api.Grid) { g.Wires[0].B = 0 }, api.ErrArg},
 		"wire of 0":            {func(g *api.Grid) { g.Wires[0].Siem = 0 }, api.ErrArg},
 		"wire of 4":            {func(g *api.Grid) { g.Wires[0].Siem = 4 }, api.OK},

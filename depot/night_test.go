@@ -223,6 +223,7 @@ func TestNightArguments(t *testing.T) {
 		"come -1":             {func(n *night) { n.cars[0].Come = -1 }, api.ErrArg},
 		"come out of order":   {func(n *night) { n.cars[0].Come = 3 }, api.ErrArg},
 		"come at the leave":   {func(n *night) { n.cars[2].Come = 10 }, api.OK},
+		"come and leave":      {func(n *night) { *n = example(1, []int{1}, []int{1}); n.cars[0].Come = 10 }, api.OK},
 		"come after a leave":  {func(n *night) { n.cars[2].Come = 11 }, api.ErrNone},
 		"come too late":       {func(n *night) { n.cars[2].Come = 200001 }, api.ErrArg},
 		"due -1":              {func(n *night) { n.cars[2].Due = -1 }, api.ErrArg},
@@ -451,6 +452,12 @@ func TestHome(t *testing.T) {
 	}
 	if a, b, x, z, e := depot.Home(nil, y, nil, nil, nil, 0); e != api.OK || len(a)+len(b)+len(x)+len(z) > 0 {
 		t.Error(a, b, x, z, e)
+	}
+	if _, _, _, _, e := depot.Home(tasks[:1], y, [][]int{{0}}, kinds[:1], lengths[:1], 200000); e != api.OK {
+		t.Error(e)
+	}
+	if _, _, _, _, e := depot.Home(tasks[1:2], y, [][]int{{0}}, kinds[:1], lengths[:1], 200000); e != api.ErrNone {
+		t.Error(e)
 	}
 	for n, want := range map[int]api.Errno{9: api.OK, 10: api.ErrNone} {
 		many, _, _ := duty.Cars(slices.Repeat(tasks[:1], n), y)

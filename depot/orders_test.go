@@ -142,6 +142,9 @@ func TestProves(t *testing.T) {
 			t.Error(c, is)
 		}
 	}
+	if depot.Proves([]int{1, 0}, false, 2, []int{1, 0}) || depot.Proves([]int{0, 1}, true, 2, []int{1, 0}) {
+		t.Error("a list that does not increase")
+	}
 	held := 0
 	for seed := range 2000 {
 		r := sample.New(seed)

@@ -89,7 +89,6 @@ func (m *matching) fewest() {
 				break
 			}
 		}
-		m.fixed = a + 1
 	}
 }
 

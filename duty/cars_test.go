@@ -54,12 +54,14 @@ func TestCheck(t *testing.T) {
 		"as it is":          {func(l *[]api.Task, y *api.Yard) {}, api.OK},
 		"from nowhere":      {func(l *[]api.Task, y *api.Yard) { (*l)[0].From = 2 }, api.ErrArg},
 		"to nowhere":        {func(l *[]api.Task, y *api.Yard) { (*l)[0].To = -1 }, api.ErrArg},
+		"to place 2":        {func(l *[]api.Task, y *api.Yard) { (*l)[4].To = 2 }, api.ErrArg},
 		"departs early":     {func(l *[]api.Task, y *api.Yard) { (*l)[0].Depart = -1 }, api.ErrArg},
 		"arrives early":     {func(l *[]api.Task, y *api.Yard) { (*l)[4].Arrive = 259 }, api.ErrArg},
 		"takes no time":     {func(l *[]api.Task, y *api.Yard) { (*l)[4].Arrive = 260 }, api.OK},
 		"arrives at last":   {func(l *[]api.Task, y *api.Yard) { (*l)[4].Arrive = 200000 }, api.OK},
 		"arrives too late":  {func(l *[]api.Task, y *api.Yard) { (*l)[4].Arrive = 200001 }, api.ErrArg},
 		"out of order":      {func(l *[]api.Task, y *api.Yard) { (*l)[1].Depart = 61 }, api.ErrArg},
+		"out of order too":  {func(l *[]api.Task, y *api.Yard) { (*l)[0].Depart = 21 }, api.ErrArg},
 		"equal departs":     {func(l *[]api.Task, y *api.Yard) { (*l)[1].Depart = 60 }, api.OK},
 		"60 tasks":          {func(l *[]api.Task, y *api.Yard) { *l = slices.Repeat((*l)[:1], 60) }, api.OK},
 		"61 tasks":          {func(l *[]api.Task, y *api.Yard) { *l = slices.Repeat((*l)[:1], 61) }, api.ErrArg},
@@ -124,6 +126,12 @@ func TestFollows(t *testing.T) {
 	}
 	for _, p := range [][2]int{{-1, 0}, {0, 5}, {5, 0}, {0, -1}, {math.MaxInt, math.MinInt}} {
 		if is, e := duty.Follows(tasks, y, p[0], p[1]); is || e != api.ErrArg {
+			t.Error(p, is, e)
+		}
+	}
+	short := []api.Task{{Depart: 5, Arrive: 5}, {Depart: 5, Arrive: 5}}
+	for p, want := range map[[2]int]bool{{0, 0}: false, {0, 1}: true, {1, 0}: false} {
+		if is, e := duty.Follows(short, api.Yard{Dead: [][]int{{0}}, Relief: []bool{true}}, p[0], p[1]); is != want || e != api.OK {
 			t.Error(p, is, e)
 		}
 	}

@@ -84,6 +84,7 @@ func TestArguments(t *testing.T) {
 	for name, cars := range map[string][][]int{
 		"none": nil, "a task missing": {{0, 2}, {1, 3}}, "an empty car": {{0, 2, 4}, {1, 3}, {}}, "a task twice": {{0, 2, 4}, {1, 3, 4}}, "out of order": {{1, 3}, {0, 2, 4}},
 		"cannot follow": {{0, 4}, {1, 2, 3}}, "backward": {{2, 0, 4}, {1, 3}}, "no such task": {{0, 2, 4}, {1, 3, 5}}, "task -1": {{-1, 0, 2, 4}, {1, 3}}, "twice the same car": {{0, 2, 4}, {0, 2, 4}, {1, 3}},
+		"cannot follow at first": {{0, 1}, {2}, {3, 4}}, "one twice and one not": {{0, 2, 4}, {1}, {4}},
 	} {
 		_, e0 := duty.Faults(tasks, y, cars, rules(), api.Duty{Pieces: make([]api.DutyPiece, 1)})
 		l, e1 := duty.Duties(tasks, y, cars, rules())
@@ -303,8 +304,12 @@ func TestDuties(t *testing.T) {
 	for seed := range 500 {
 		r := sample.New(seed)
 		tasks, y := random(r, r.From(0, 7))
-		for i := range tasks { // whole tens, so that there are plans of equal spans
+		for i := range tasks { // many plans of equal spans
 			tasks[i].Depart, tasks[i].Arrive = tasks[i].Depart/20*20, (tasks[i].Arrive+19)/20*20
+			if seed%2 == 0 {
+				tasks[i].Depart = tasks[i].Depart / 60 * 60
+				tasks[i].Arrive = tasks[i].Depart + 20
+			}
 		}
 		cars, w := randomCars(r, tasks, y), randomRules(r)
 		best, found := bestDuties(tasks, y, cars, w)
@@ -325,6 +330,17 @@ func TestDuties(t *testing.T) {
 	}
 	if seen[api.OK] < 50 || seen[api.ErrNone] < 50 || ties < 5 {
 		t.Error("the samples are too simple:", seen, ties)
+	}
+}
+
+// TestTies is for P8.4: of plans with equal spans, the one whose first pieces come first is meant, although its first tasks do not.
+func TestTies(t *testing.T) {
+	tasks := []api.Task{{Arrive: 100}, {Depart: 10, Arrive: 20}, {Depart: 200, Arrive: 210}, {Depart: 200, Arrive: 210}}
+	y := api.Yard{Dead: [][]int{{0}}, Relief: []bool{true}}
+	w := api.WorkRules{Piece: 100, Span: 1000, Work: 100}
+	want := []api.Duty{{Pieces: []api.DutyPiece{{}}}, {Pieces: []api.DutyPiece{{First: 1, Last: 1}}}, two(api.DutyPiece{Car: 1}, api.DutyPiece{Car: 2})}
+	if l, e := duty.Duties(tasks, y, [][]int{{0, 2}, {1}, {3}}, w); e != api.OK || !reflect.DeepEqual(l, want) {
+		t.Error(l, e)
 	}
 }
 

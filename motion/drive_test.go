@@ -233,6 +233,32 @@ func TestDrive(t *testing.T) {
 	}
 }
 
+// TestDriveBorders is for P3.4: trains that come exactly to borders of rails and to limits, against a naive driver.
+func TestDriveBorders(t *testing.T) {
+	for seed := range 60 {
+		r := sample.New(seed)
+		p, way := chain(r, r.From(2, 5))
+		at := 0
+		for i := range p.Rails {
+			at += r.From(1, 30) * 100
+			p.Nodes[i+1].Spot.X = at
+			p.Rails[i].Slope, p.Rails[i].Limit = 0, r.From(1, 6)*200+r.From(-1, 0)
+		}
+		x := train()
+		x.Length = r.From(1, 8) * 100
+		if at < x.Length+1100 {
+			continue
+		}
+		stops := []int{x.Length, r.From(x.Length+1001, at)}
+		d := ride{p: p, way: way, t: x}
+		want, e := d.drive(stops)
+		got, e1 := motion.Drive(p, way, x, 0, stops)
+		if e1 != e || !slices.Equal(got, want) {
+			t.Fatal(seed, got, want, e1, e)
+		}
+	}
+}
+
 // TestNoWayUp is for P3.4: legs that are not possible.
 func TestNoWayUp(t *testing.T) {
 	p, way := straight(), []api.Move{{}}
@@ -282,10 +308,20 @@ func TestFarAway(t *testing.T) {
 func TestLongLeg(t *testing.T) {
 	p, way := straight(), []api.Move{{}}
 	x := train()
-	x.Speed, x.Effort, x.Brake = 20, 4, 40 // 20 millimeters a second: 3600 seconds are 72 meters, less what is needed to start
-	for stop, want := range map[int]api.Errno{5000 + 71000: api.OK, 5000 + 78000: api.ErrNone} {
-		if n, e := motion.Run(p, way, x, 0, []int{5000, stop}); e != want {
-			t.Error(stop, n, e)
+	x.Speed, x.Effort, x.Brake = 20, 4, 40 // about 20 millimeters a second: 3600 seconds are about 75 meters
+	low, high := 5000+70000, 5000+80000
+	for low+1 < high { // the last stop that is possible
+		if _, e := motion.Run(p, way, x, 0, []int{5000, (low + high) / 2}); e == api.OK {
+			low = (low + high) / 2
+		} else {
+			high = (low + high) / 2
 		}
+	}
+	n, e := motion.Run(p, way, x, 0, []int{5000, low})
+	if e != api.OK || n[0] > 3600000 || n[0] < 3599000 {
+		t.Error(low, n, e)
+	}
+	if n, e := motion.Run(p, way, x, 0, []int{5000, high}); len(n) > 0 || e != api.ErrNone {
+		t.Error(high, n, e)
 	}
 }

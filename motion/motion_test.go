@@ -221,6 +221,15 @@ func TestStepExamples(t *testing.T) {
 	if _, l, e := motion.Step(x, api.MotionState{}, 4, 0, 0); e != api.OK || l != (api.MotionLedger{Pull: 80000000000, Round: 40000000000}) {
 		t.Error(l, e)
 	}
+	weak := train()
+	weak.Effort, weak.Power = 1, 1
+	if took, gave, e := motion.Powers(weak, api.MotionState{Momentum: 999901}, 4, 0, 0); took != 2 || gave != 0 || e != api.OK { // 1.000001 watts
+		t.Error(took, gave, e)
+	}
+	weak.Effort = 2000 // at a millimeter a second, a watt is 1000 newtons
+	if s, _, e := motion.Step(weak, api.MotionState{Momentum: 1000}, 4, 0, 0); s.Momentum != 101000 || e != api.OK {
+		t.Error(s, e)
+	}
 	for _, c := range []struct{ momentum, demand, took, gave int }{{0, 4, 400, 0}, {1000000, -4, 0, 450}, {0, 0, 0, 0}} {
 		if took, gave, e := motion.Powers(x, api.MotionState{Momentum: c.momentum}, c.demand, 0, 0); took != c.took || gave != c.gave || e != api.OK {
 			t.Error(c, took, gave, e)

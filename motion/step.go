@@ -67,14 +67,8 @@ func (e *engine) forces(i instant) forces {
 
 func (f forces) sum() int { return f[pull] - f[brake] - f[drag] - f[hill] }
 
-// after returns the momentum that a force makes of one, in a step.
-func after(momentum, force int) int {
-	next := momentum + 100*force
-	if next < 0 || momentum == 0 && force <= 0 {
-		return 0
-	}
-	return next
-}
+// after returns the momentum that a force makes of one, in a step: a train never rolls back.
+func after(momentum, force int) int { return max(0, momentum+100*force) }
 
 // possible reports whether a step can lead to a momentum.
 func (e *engine) possible(momentum int) bool { return momentum <= api.MotionSpeed*e.Mass }

@@ -111,6 +111,7 @@ func TestCheck(t *testing.T) {
 		"skips 21":                  {func(j *api.Junction) { j.Skips = 21 }, api.ErrArg},
 		"a gate":                    {func(j *api.Junction) { j.Gates = []api.Gate{{Move: api.Move{Rail: math.MinInt}}} }, api.OK},
 		"a gate for walkers":        {func(j *api.Junction) { j.Gates = []api.Gate{{Stream: 2}} }, api.ErrArg},
+		"a gate for the last":       {func(j *api.Junction) { j.Streams[2].Kind, j.Gates = api.StreamCar, []api.Gate{{Stream: 2}} }, api.OK},
 		"a gate of no stream":       {func(j *api.Junction) { j.Gates = []api.Gate{{Stream: 3}} }, api.ErrArg},
 		"a gate of stream -1":       {func(j *api.Junction) { j.Gates = []api.Gate{{Stream: -1}} }, api.ErrArg},
 		"a move twice":              {func(j *api.Junction) { j.Gates = []api.Gate{{}, {}} }, api.ErrArg},
@@ -215,24 +216,25 @@ func TestRight(t *testing.T) {
 		do   func(p *api.Program)
 		want bool
 	}{
-		"as it is":         {func(p *api.Program) {}, true},
-		"shorter":          {func(p *api.Program) { p.Cycle = 22 }, false},
-		"no cycle":         {func(p *api.Program) { p.Cycle = 0 }, false},
-		"a long cycle":     {func(p *api.Program) { p.Cycle = 2000 }, true},
-		"too long":         {func(p *api.Program) { p.Cycle = 2001 }, false},
-		"begins missing":   {func(p *api.Program) { p.Begins = p.Begins[:2] }, false},
-		"lasts missing":    {func(p *api.Program) { p.Lasts = p.Lasts[:2] }, false},
-		"lasts more":       {func(p *api.Program) { p.Lasts = append(p.Lasts, 9) }, false},
-		"begins late":      {func(p *api.Program) { p.Begins[0] = 24 }, false},
-		"begins early":     {func(p *api.Program) { p.Begins[0] = -12 }, false},
-		"less than least":  {func(p *api.Program) { p.Lasts[0] = 4 }, false},
-		"lasts 0":          {func(p *api.Program) { p.Lasts[0] = 0 }, false},
-		"longer than all":  {func(p *api.Program) { p.Lasts[0] = 25 }, false},
-		"always green":     {func(p *api.Program) { p.Begins[0], p.Lasts[0] = 0, 24 }, false},
-		"huge":             {func(p *api.Program) { p.Begins[0], p.Lasts[0] = math.MaxInt, math.MaxInt }, false},
-		"a second earlier": {func(p *api.Program) { p.Begins[2] = 9 }, false},
-		"a second later":   {func(p *api.Program) { p.Begins[2] = 11 }, true},
-		"2 seconds later":  {func(p *api.Program) { p.Begins[2] = 12 }, false}, // walkers need 7 seconds before traffic begins
+		"as it is":             {func(p *api.Program) {}, true},
+		"shorter":              {func(p *api.Program) { p.Cycle = 22 }, false},
+		"no cycle":             {func(p *api.Program) { p.Cycle = 0 }, false},
+		"a long cycle":         {func(p *api.Program) { p.Cycle = 2000 }, true},
+		"too long":             {func(p *api.Program) { p.Cycle = 2001 }, false},
+		"begins missing":       {func(p *api.Program) { p.Begins = p.Begins[:2] }, false},
+		"lasts missing":        {func(p *api.Program) { p.Lasts = p.Lasts[:2] }, false},
+		"lasts more":           {func(p *api.Program) { p.Lasts = append(p.Lasts, 9) }, false},
+		"begins late":          {func(p *api.Program) { p.Begins[0] = 24 }, false},
+		"begins a cycle later": {func(p *api.Program) { p.Begins[1] = 24 }, false},
+		"begins early":         {func(p *api.Program) { p.Begins[0] = -12 }, false},
+		"less than least":      {func(p *api.Program) { p.Lasts[0] = 4 }, false},
+		"lasts 0":              {func(p *api.Program) { p.Lasts[0] = 0 }, false},
+		"longer than all":      {func(p *api.Program) { p.Lasts[0] = 25 }, false},
+		"always green":         {func(p *api.Program) { p.Begins[0], p.Lasts[0] = 0, 24 }, false},
+		"huge":                 {func(p *api.Program) { p.Begins[0], p.Lasts[0] = math.MaxInt, math.MaxInt }, false},
+		"a second earlier":     {func(p *api.Program) { p.Begins[2] = 9 }, false},
+		"a second later":       {func(p *api.Program) { p.Begins[2] = 11 }, true},
+		"2 seconds later":      {func(p *api.Program) { p.Begins[2] = 12 }, false}, // walkers need 7 seconds before traffic begins
 	} {
 		p := good()
 		c.do(&p)
@@ -243,6 +245,10 @@ func TestRight(t *testing.T) {
 	walk := api.Junction{Streams: []api.Stream{{Kind: api.StreamWalk, Least: 3}}, Clears: [][]int{{-1}}, Phases: [][]int{{0}}, Longest: []int{3}}
 	if !street.Right(walk, api.Program{Cycle: 5, Begins: []int{0}, Lasts: []int{5}}) || street.Right(walk, api.Program{Cycle: 5, Begins: []int{1}, Lasts: []int{5}}) {
 		t.Error("a stream that is always green begins at 0")
+	}
+	walk.Streams[0].Least = 1
+	if !street.Right(walk, api.Program{Cycle: 1, Begins: []int{0}, Lasts: []int{1}}) {
+		t.Error("a cycle of a second")
 	}
 	seen := map[bool]int{}
 	for seed := range 20000 {

@@ -62,6 +62,50 @@ func TestFouls(t *testing.T) {
 	}
 }
 
+// TestFoulsBorders is for P2.3: rails that are just foul, and rails that are just not, for each reason.
+func TestFoulsBorders(t *testing.T) {
+	side := []api.Spot{{}, {X: 500}}
+	bend := []api.Spot{{}, {X: 500}, {X: 1000, Y: -1000}}
+	tip := []api.Spot{{X: 100, Y: 9000}, {X: 500, Y: 400}, {X: 900, Y: 9000}}
+	for _, c := range []struct {
+		name        string
+		first, last []api.Spot
+		x, y        api.Profile
+	}{
+		{"sides", side, []api.Spot{{X: 100, Y: 400}, {X: 400, Y: 400}}, api.Profile{Half: 150}, api.Profile{Half: 250}},
+		{"sides that are near", side, []api.Spot{{X: 100, Y: 2}, {X: 400, Y: 2}}, api.Profile{Half: 1}, api.Profile{Half: 1}},
+		{"the first one's bend", bend, []api.Spot{{X: 500, Y: 400}, {X: 500, Y: 900}}, api.Profile{Half: 100, Swing: 200}, api.Profile{Half: 100}},
+		{"the second one's bend", side, tip, api.Profile{Half: 100}, api.Profile{Half: 100, Swing: 200}},
+		{"both bends", bend, tip, api.Profile{Half: 100, Swing: 50}, api.Profile{Half: 150, Swing: 100}},
+	} {
+		p := sample.Lines(c.first, c.last)
+		foul := func(x, y api.Profile) bool {
+			l, e := sweep.Fouls(p, []api.Profile{x, y})
+			if e != api.OK {
+				t.Error(c.name, e)
+			}
+			return slices.Contains(l, api.Foul{RailA: 0, ProfileA: 0, RailB: 1, ProfileB: 1})
+		}
+		if !foul(c.x, c.y) {
+			t.Error(c.name, "they are foul")
+		}
+		less := p // a millimeter farther away
+		less.Nodes = slices.Clone(p.Nodes)
+		less.Rails = slices.Clone(p.Rails)
+		for _, i := range []int{2, 3} {
+			less.Nodes[i].Spot.Y++
+		}
+		less.Rails[1].Shape = slices.Clone(p.Rails[1].Shape)
+		for i := range less.Rails[1].Shape {
+			less.Rails[1].Shape[i].Y++
+		}
+		p = less
+		if foul(c.x, c.y) {
+			t.Error(c.name, "they are not foul any more")
+		}
+	}
+}
+
 // TestWitness is for P2.4: the least gap, and the first strips with it.
 func TestWitness(t *testing.T) {
 	if a, b, n, e := sweep.Witness(sample.Example(), 0, 2); a != strip(0, 0) || b != strip(2, 0) || n != 0 || e != api.OK {
