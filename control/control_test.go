@@ -264,10 +264,10 @@ func TestManyTrips(t *testing.T) {
 	if l, e := control.Trips(d); e != api.ErrLong || len(l) > 0 {
 		t.Error(len(l), e)
 	}
-	for _, headway := range []int{100, 30} {
+	// A trip out each headway, and one home, that arrive 120 seconds later.
+	for headway, last := range map[int]int{100: 3997, 30: 13325} {
 		d.Service.Headways[0], d.Until = headway, 200000
-		last := 2*200000/headway - 20
-		for trip, want := range map[int]api.Errno{-1: api.ErrArg, 0: api.ErrLong, last: api.ErrLong, last + 40: api.ErrArg} {
+		for trip, want := range map[int]api.Errno{-1: api.ErrArg, 0: api.ErrLong, last: api.ErrLong, last + 1: api.ErrArg} {
 			if _, e := control.Uses(d, trip); e != want {
 				t.Error(headway, trip, e)
 			}

@@ -97,33 +97,51 @@ func TestFareArguments(t *testing.T) {
 	check("the greatest ticket", good, api.Ticket{Zones: 1<<20 - 1, Minutes: 10000, Price: 1000000}, ride, api.OK)
 	for name, rides := range map[string][]api.Ride{
 		"none": nil, "no such trip": {{Trip: 12, To: 1}}, "trip -1": {{Trip: -1, To: 1}}, "backward": {{From: 1, To: 0}}, "nowhere": {{From: 1, To: 1}}, "from -1": {{From: -1, To: 1}}, "too far": {{To: 3}},
-		"too early": {{To: 2}, {Trip: 2, To: 1}}, "the same one again": {{To: 1}, {To: 1}}, "too many": manyRides(21), "huge": {{Trip: 0, From: math.MinInt, To: math.MaxInt}},
+		"too early": {{To: 2}, {Trip: 2, To: 1}}, "the same one again": {{To: 1}, {To: 1}}, "huge": {{Trip: 0, From: math.MinInt, To: math.MaxInt}},
 	} {
 		check("journey: "+name, good, ticket, rides, api.ErrArg)
 	}
 	check("just in time", good, ticket, []api.Ride{{To: 2}, {Trip: 4, To: 1}}, api.OK)
 	check("off and on", good, ticket, []api.Ride{{To: 1}, {From: 1, To: 2}}, api.OK)
 	for n, want := range map[int]api.Errno{10: api.OK, 11: api.ErrLong} {
-		check("many zones", z(1<<n-1, 1, 1, 1<<19, 1<<18, 1<<17), ticket, ride, want)
+		check("many zones", z((1<<n-1)<<1, 2, 2, 1<<19, 1<<18, 1<<17), ticket, ride, want)
 	}
 	for n, want := range map[int]api.Errno{0: api.ErrArg, 1: api.OK, 30: api.OK, 31: api.ErrArg} {
 		if _, _, e := control.Fare(d, good, slices.Repeat([]api.Ticket{ticket}, n), ride); e != want {
 			t.Error(n, e)
 		}
 	}
+	d.Until = 3000
+	check("20 rides", good, ticket, manyRides(20), api.OK)
+	check("21 rides", good, ticket, manyRides(21), api.ErrArg)
 	d.Until = 60000
 	check("a long day", good, ticket, ride, api.ErrLong)
 	check("a long day and a long journey", good, ticket, manyRides(20), api.ErrLong)
 	check("a long day and no journey", good, ticket, nil, api.ErrArg)
 }
 
-// manyRides returns rides on one trip after the other.
+// manyRides returns rides on one trip after the other, two on each.
 func manyRides(n int) []api.Ride {
 	var l []api.Ride
 	for i := range n {
-		l = append(l, api.Ride{Trip: 6 * i, To: 1})
+		l = append(l, api.Ride{Trip: i / 2 * 4, From: i % 2, To: i%2 + 1})
 	}
 	return l
+}
+
+// TestMinutes is for P10.5: a ride that takes a second more than a minute.
+func TestMinutes(t *testing.T) {
+	d := example(t)
+	for seconds, want := range map[int]bool{60: true, 61: false} {
+		l, ok := sample.Line([]int{seconds}, []int{0, 0}, []int{50}, []int{0, 0}, 30)
+		if !ok {
+			t.Fatal("there is no such line")
+		}
+		d.Service.Lines[0], d.Turnbacks = l, nil
+		if is, e := control.Covers(d, api.Zones{Stops: []int{1, 1, 1, 1}}, api.Ticket{Count: 1, Minutes: 1}, []api.Ride{{To: 1}}); is != want || e != api.OK {
+			t.Error(seconds, is, e)
+		}
+	}
 }
 
 // coversOf says whether a ticket covers rides, by trying all sets of zones.

@@ -107,23 +107,13 @@ func (s *search) costOf(trip int, t api.Turnback) int {
 	return s.courseOf(trip).last() - t.Stop + t.Back
 }
 
-// allowed reports whether a trip can turn without a cut stop at a time that has to be kept.
+// allowed reports whether a trip can turn without a cut stop at a time that has to be kept. The last cut stop is that of the next trip before it begins.
 func (s *search) allowed(trip int, t api.Turnback) bool {
 	if !s.turns(trip, t) {
 		return false
 	}
 	next, _ := s.next(trip)
-	return s.published(trip, s.courseOf(trip).last()-1) < s.from && s.published(next, t.Back-1) < s.from
-}
-
-// keptUntil returns the first stop whose departure has to be kept and is not; the last stop if there is none.
-func (s *search) keptUntil(trip int, r ride) int {
-	for stop := r.begin; stop < r.end; stop++ {
-		if at := s.published(trip, stop); at >= s.from && r.departs[stop] > at {
-			return stop
-		}
-	}
-	return r.end
+	return s.published(next, t.Back-1) < s.from
 }
 
 // cutsOf returns the best cuts, and whether there are any. The first choice that does not cost too much is taken for each trip.
@@ -144,12 +134,10 @@ func (s *search) cutsOf() ([]api.CutShort, bool) {
 		}
 		trip := s.trips[index]
 		r := s.run(trip, begin, s.courseOf(trip).last(), at.ready, s.delays)
-		kept := s.keptUntil(trip, r)
-		if kept == r.end {
-			unlessTooDear(func() { visit(index+1, 0, limit{cost: at.cost, ready: s.readyAfter(trip, r)}) })
-		}
+		// No departure of this trip can be late that has to be kept: no cut would be allowed then, and there would be no limits.
+		unlessTooDear(func() { visit(index+1, 0, limit{cost: at.cost, ready: s.readyAfter(trip, r)}) })
 		for i, t := range s.Turnbacks {
-			if done || t.Stop <= begin || t.Stop > kept || !s.allowed(trip, t) {
+			if done || t.Stop <= begin || !s.allowed(trip, t) {
 				continue
 			}
 			chosen = append(chosen, api.CutShort{Trip: trip, Turnback: i})

@@ -268,21 +268,27 @@ func TestMoment(t *testing.T) {
 	}
 }
 
-// rightOf returns the best cuts by trying all of them, car by car.
-func (b *book) rightOf(delays []api.Delay, from int) ([]api.CutShort, bool) {
-	var all []api.CutShort
+// rightOf returns the best cuts by trying all of them, car by car; and whether the first ones that do are not the best ones for some car.
+func (b *book) rightOf(delays []api.Delay, from int) (all []api.CutShort, ok, dearer bool) {
 	for _, car := range b.cars() {
 		var best []int
-		cost := -1
+		cost, first := -1, -1
 		choices(len(car), len(b.Turnbacks), func(chosen []int) {
 			day, ok := b.run(car, chosen, delays)
-			if ok && b.moment(car, day) <= from && (cost < 0 || len(day.cut) < cost) {
+			if !ok || b.moment(car, day) > from {
+				return
+			}
+			if first < 0 {
+				first = len(day.cut)
+			}
+			if cost < 0 || len(day.cut) < cost {
 				best, cost = chosen, len(day.cut)
 			}
 		})
 		if cost < 0 {
-			return nil, false
+			return nil, false, false
 		}
+		dearer = dearer || cost < first
 		for i, x := range best {
 			if x >= 0 {
 				all = append(all, api.CutShort{Trip: car[i], Turnback: x})
@@ -290,48 +296,106 @@ func (b *book) rightOf(delays []api.Delay, from int) ([]api.CutShort, bool) {
 		}
 	}
 	slices.SortFunc(all, func(x, y api.CutShort) int { return cmp.Compare(x.Trip, y.Trip) })
-	return all, true
+	return all, true, dearer
+}
+
+// moreTurnbacks adds turnbacks of the first line, up to four.
+func moreTurnbacks(r *sample.Rand, d *api.Day) {
+	for len(d.Turnbacks) < 4 {
+		t := api.Turnback{Home: r.Often(50), Seconds: r.From(1, 10)}
+		first, second := d.Service.Lines[0].Out, d.Service.Lines[0].Home
+		if t.Home {
+			first, second = second, first
+		}
+		t.Stop, t.Back = r.From(1, len(first.Stops)-2), r.From(1, len(second.Stops)-2)
+		d.Turnbacks = append(d.Turnbacks, t)
+	}
+}
+
+// tightDay returns a day of one car that has hardly any time to spare, with several turnbacks in both directions.
+func tightDay(t *testing.T, r *sample.Rand) api.Day {
+	t.Helper()
+	var runs, dwells [2][]int
+	round := 0
+	for d := range runs {
+		for range r.From(3, 5) {
+			runs[d], dwells[d] = append(runs[d], r.From(4, 12)), append(dwells[d], r.From(0, 6))
+			round += runs[d][len(runs[d])-1]
+		}
+		dwells[d] = append(dwells[d], 0)
+		dwells[d][0] = 0
+		for _, x := range dwells[d] {
+			round += x
+		}
+	}
+	l, ok := sample.Line(runs[0], dwells[0], runs[1], dwells[1], r.From(0, 3))
+	if !ok {
+		t.Fatal(runs)
+	}
+	h := max(30, round+2*l.Layover+r.From(0, 3))
+	d := api.Day{Plan: sample.Street(), Service: api.Service{Lines: []api.Line{l}, Headways: []int{h}, Offsets: []int{0}}, Until: 5*h/2 + h/4}
+	moreTurnbacks(r, &d)
+	return d
 }
 
 // TestRight is for P10.3 and P10.6: the best cuts against all cuts.
 func TestRight(t *testing.T) {
 	seen := map[int]int{}
-	for seed := range 90 {
+	notFirst := 0
+	for seed := range 70 {
 		r := sample.New(seed)
-		d := random(t, r)
+		var d api.Day
+		if seed%6 == 0 {
+			d = random(t, r)
+		} else {
+			d = tightDay(t, r)
+		}
 		b := newBook(t, d)
-		if slices.ContainsFunc(b.cars(), func(car []int) bool { return len(car) > 7 }) {
+		if slices.ContainsFunc(b.cars(), func(car []int) bool { return len(car) > 5 }) {
 			continue
 		}
-		l := randomDelays(r, b)
-		moment, _ := control.Moment(d, l)
-		last := -1
-		for _, from := range []int{r.From(0, max(1, moment)), moment - r.From(1, 60), moment} {
-			if from < 0 {
-				continue
+		for range 6 {
+			l := randomDelays(r, b)
+			if seed%3 == 2 && len(b.trips) > 1 { // so late that one cut hardly suffices
+				l = []api.Delay{{Seconds: r.From(20, 120)}, {Trip: 1, Seconds: r.From(1, 40)}}
 			}
-			want, ok := b.rightOf(l, from)
-			cuts, e := control.Right(d, l, from)
-			if ok != (e == api.OK) || !ok && (e != api.ErrNone || len(cuts) > 0) || !slices.Equal(cuts, want) {
-				t.Fatal(seed, from, cuts, want, e)
-			}
-			if !ok {
-				seen[-1]++
-				continue
-			}
-			seen[len(cuts)]++
-			if is, e := control.Kept(d, l, cuts, from); !is || e != api.OK || from >= moment && len(cuts) > 0 {
-				t.Fatal(seed, from, cuts, is, e)
-			}
-			last, _ = control.CutStops(d, cuts)
-			later, e := control.Right(d, l, from+r.From(1, 50))
-			if n, _ := control.CutStops(d, later); e != api.OK || n > last {
-				t.Fatal(seed, from, later, cuts, e)
+			moment, _ := control.Moment(d, l)
+			for _, from := range []int{moment - 1, moment - r.From(1, 90), moment} {
+				if from < 0 {
+					continue
+				}
+				want, ok, dearer := b.rightOf(l, from)
+				if dearer {
+					notFirst++
+				}
+				cuts, e := control.Right(d, l, from)
+				if ok != (e == api.OK) || !ok && (e != api.ErrNone || len(cuts) > 0) || !slices.Equal(cuts, want) {
+					t.Fatal(seed, from, cuts, want, e)
+				}
+				if !ok {
+					seen[-1]++
+					continue
+				}
+				seen[len(cuts)]++
+				checkRight(t, r, d, l, cuts, from, moment)
 			}
 		}
 	}
-	if seen[-1] < 5 || seen[0] < 5 || seen[1] < 5 || seen[2]+seen[3] < 2 {
-		t.Error("the samples are too simple:", seen)
+	if seen[-1] < 20 || seen[0] < 20 || seen[1] < 20 || seen[2]+seen[3] < 30 || notFirst < 20 {
+		t.Error("the samples are too simple:", seen, notFirst)
+	}
+}
+
+// checkRight checks that cuts put a day right, and that a later moment needs no more of them.
+func checkRight(t *testing.T, r *sample.Rand, d api.Day, l []api.Delay, cuts []api.CutShort, from, moment int) {
+	t.Helper()
+	if is, e := control.Kept(d, l, cuts, from); !is || e != api.OK || from >= moment && len(cuts) > 0 {
+		t.Fatal(from, cuts, is, e)
+	}
+	n, _ := control.CutStops(d, cuts)
+	later, e := control.Right(d, l, from+r.From(1, 50))
+	if m, _ := control.CutStops(d, later); e != api.OK || m > n {
+		t.Fatal(from, later, cuts, e)
 	}
 }
 

@@ -56,10 +56,10 @@ func permutations(numbers ...int) iter.Seq[[]int] {
 // first returns the first one of several of which none is better.
 func first[T any](all iter.Seq[T], better func(x, y T) bool) T {
 	var found T
-	any := false
+	some := false
 	for x := range all {
-		if !any || better(x, found) {
-			found, any = x, true
+		if !some || better(x, found) {
+			found, some = x, true
 		}
 	}
 	return found

@@ -241,7 +241,7 @@ func TestDriveBorders(t *testing.T) {
 		at := 0
 		for i := range p.Rails {
 			at += r.From(1, 30) * 100
-			p.Nodes[i+1].Spot.X = at
+			p.Nodes[i+1].Spot.X = at - seed%2
 			p.Rails[i].Slope, p.Rails[i].Limit = 0, r.From(1, 6)*200+r.From(-1, 0)
 		}
 		x := train()
@@ -249,7 +249,7 @@ func TestDriveBorders(t *testing.T) {
 		if at < x.Length+1100 {
 			continue
 		}
-		stops := []int{x.Length, r.From(x.Length+1001, at)}
+		stops := []int{x.Length, r.From(x.Length+1001, at-1)}
 		d := ride{p: p, way: way, t: x}
 		want, e := d.drive(stops)
 		got, e1 := motion.Drive(p, way, x, 0, stops)

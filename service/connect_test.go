@@ -76,7 +76,7 @@ func TestLast(t *testing.T) {
 			t.Error(c, trip, e)
 		}
 	}
-	for before, want := range map[int]api.Errno{119: api.ErrNone, 120: api.OK, 200000: api.OK} {
+	for before, want := range map[int]api.Errno{0: api.ErrNone, 119: api.ErrNone, 120: api.OK, 200000: api.OK} {
 		if trip, e := service.Last(p, s, nil, 0, false, before); e != want {
 			t.Error(before, trip, e)
 		}
@@ -316,6 +316,13 @@ func TestOpen(t *testing.T) {
 			t.Error(h, h+h*h, o, e)
 		}
 	}
+	// With a headway of 5000, and 19 offsets of the line 1 that are kept, exactly as many offsets are tried as may be: 5000 + 19 5000.
+	for more, want := range map[int]api.Errno{18: api.ErrNone, 19: api.ErrOpen} {
+		some := api.Connection{FromStop: 2, ToLine: 1, Least: 100, Most: 100 + more}
+		if o, e := service.Connect(p, lines(l, 3).Lines, 5000, []api.Connection{some, never}); e != want || len(o) > 0 {
+			t.Error(more, o, e)
+		}
+	}
 	// If the line 0 cannot connect with itself, nothing is tried.
 	never.FromLine, never.ToLine = 0, 0
 	if o, e := service.Connect(p, lines(l, 3).Lines, 7200, []api.Connection{never}); e != api.ErrNone || len(o) > 0 {
@@ -426,6 +433,16 @@ func TestSlotBorders(t *testing.T) {
 	for depart, want := range map[int]api.Errno{-1: api.ErrArg, 0: api.OK, 207200: api.OK, 207201: api.ErrArg} {
 		if is, e := service.Free(p, s, 0, false, depart, 100, 1); e != want || e != api.OK && is {
 			t.Error(depart, is, e)
+		}
+	}
+	// A car that is overtaken on the only leg there is.
+	single, ok := sample.Line([]int{60}, []int{0, 0}, []int{50}, []int{0, 0}, 30)
+	if !ok {
+		t.Fatal("there is no such line")
+	}
+	for factor, want := range map[int]bool{150: true, 300: false} {
+		if is, e := service.Free(p, one(single, 100, 0), 0, false, 50, factor, 10); is != want || e != api.OK {
+			t.Error(factor, is, e)
 		}
 	}
 	// With a headway of 7200 the slot can be as late as 7200 seconds later.

@@ -9,6 +9,7 @@ import (
 	"tramline/motion"
 	"tramline/sample"
 	"tramline/service"
+	"tramline/track"
 )
 
 // example returns the line of the chapter's examples with its plan.
@@ -116,6 +117,31 @@ func TestShortRun(t *testing.T) {
 	}
 }
 
+// TestWholeSeconds is for P7.1: running times are rounded up, but whole seconds stay.
+func TestWholeSeconds(t *testing.T) {
+	p, l := example(t)
+	l.Out.Stops, l.Out.Dwells = l.Out.Stops[:2], []int{0, 0}
+	seen := map[int]bool{}
+	for stop := 30000; stop < 34000; stop += 50 {
+		l.Out.Stops = []int{20000, stop}
+		millis, e := motion.Run(p, l.Out.Way, l.Train, l.State, l.Out.Stops)
+		if e != api.OK {
+			t.Fatal(stop, e)
+		}
+		want := millis[0] / 1000
+		if millis[0]%1000 > 0 {
+			want++
+		}
+		seen[millis[0]%1000] = true
+		if o, e := service.Offsets(p, l, false); e != api.OK || o[1] != want {
+			t.Error(stop, millis, o, e)
+		}
+	}
+	if !seen[0] || !seen[100] || !seen[900] {
+		t.Error("the samples are too simple:", seen)
+	}
+}
+
 // broken returns lines that are not as defined, and some that are.
 func broken() map[string]struct {
 	do   func(l *api.Line)
@@ -126,13 +152,18 @@ func broken() map[string]struct {
 		want api.Errno
 	}
 	return map[string]c{
-		"as it is":            {func(l *api.Line) {}, api.OK},
-		"no way":              {func(l *api.Line) { l.Out.Way = nil }, api.ErrArg},
-		"no way home":         {func(l *api.Line) { l.Home.Way = []api.Move{{Rail: 1}} }, api.ErrArg},
-		"one stop":            {func(l *api.Line) { l.Out.Stops, l.Out.Dwells = l.Out.Stops[:1], l.Out.Dwells[:1] }, api.ErrArg},
-		"no stops":            {func(l *api.Line) { l.Home.Stops, l.Home.Dwells = nil, nil }, api.ErrArg},
-		"60 stops":            {func(l *api.Line) { manyStops(&l.Out, 60) }, api.OK},
-		"61 stops":            {func(l *api.Line) { manyStops(&l.Out, 61) }, api.ErrArg},
+		"as it is":    {func(l *api.Line) {}, api.OK},
+		"no way":      {func(l *api.Line) { l.Out.Way = nil }, api.ErrArg},
+		"no way home": {func(l *api.Line) { l.Home.Way = []api.Move{{Rail: 1}} }, api.ErrArg},
+		"one stop":    {func(l *api.Line) { l.Out.Stops, l.Out.Dwells = l.Out.Stops[:1], l.Out.Dwells[:1] }, api.ErrArg},
+		"no stops":    {func(l *api.Line) { l.Home.Stops, l.Home.Dwells = nil, nil }, api.ErrArg},
+		"60 stops":    {func(l *api.Line) { manyStops(&l.Out, 60) }, api.OK},
+		"61 stops":    {func(l *api.Line) { manyStops(&l.Out, 61) }, api.ErrArg},
+		"a stop at the end": {func(l *api.Line) {
+			l.Home.Stops[2], l.Home.Stops[1], l.Home.Stops[0] = wayLength(), wayLength()-9000, wayLength()-19000
+		}, api.OK},
+		"a stop beyond it":    {func(l *api.Line) { l.Home.Stops[2] = wayLength() + 1 }, api.ErrArg},
+		"a stop at 1":         {func(l *api.Line) { l.Train.Length, l.Out.Stops[0] = 1, 1 }, api.OK},
 		"equal stops":         {func(l *api.Line) { l.Out.Stops[1] = l.Out.Stops[0] }, api.ErrArg},
 		"a stop before":       {func(l *api.Line) { l.Out.Stops[0] = 0 }, api.ErrArg},
 		"too near":            {func(l *api.Line) { l.Out.Stops[0] = 19999 }, api.ErrArg}, // layer 3 refuses it
@@ -151,6 +182,12 @@ func broken() map[string]struct {
 		"no such state":       {func(l *api.Line) { l.State = 1 }, api.ErrArg},
 		"a train that stands": {func(l *api.Line) { l.Train.Resist = 100000 }, api.ErrArg}, // layer 3 finds no run
 	}
+}
+
+// wayLength returns the length of the only rail.
+func wayLength() int {
+	n, _ := track.Length(sample.Street(), 0)
+	return n
 }
 
 func manyStops(c *api.Course, n int) {
@@ -378,6 +415,11 @@ func TestTripsArguments(t *testing.T) {
 	s := one(l, 100, 0)
 	for _, c := range [][2]int{{-1, 100}, {200, 199}, {0, 200001}, {math.MinInt, math.MaxInt}} {
 		if trips, e := service.Trips(p, s, nil, c[0], c[1]); len(trips) > 0 || e != api.ErrArg {
+			t.Error(c, trips, e)
+		}
+	}
+	for _, c := range [][2]int{{0, 0}, {5, 5}, {199000, 200000}, {200000, 200000}} {
+		if trips, e := service.Trips(p, s, nil, c[0], c[1]); e != api.OK || (len(trips) > 0) != (c[1]-c[0] == 1000) {
 			t.Error(c, trips, e)
 		}
 	}

@@ -123,11 +123,11 @@ func clone(j api.Junction) api.Junction {
 
 // bound returns the bound of a junction.
 func bound(j api.Junction) int {
-	clear := 0
+	clearing := 0
 	for _, row := range j.Clears {
-		clear = max(clear, slices.Max(row))
+		clearing = max(clearing, slices.Max(row))
 	}
-	return ((j.Skips+1)*len(j.Phases) + 1) * (slices.Max(j.Longest) + clear)
+	return ((j.Skips+1)*len(j.Phases) + 1) * (slices.Max(j.Longest) + clearing)
 }
 
 // programRight reports whether a program is as defined for a number of streams.
